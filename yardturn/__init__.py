@@ -1,0 +1,1 @@
+"""Yardturn: jobs on a boat put into turns."""
