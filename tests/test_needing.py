@@ -6,42 +6,9 @@ import itertools
 import unittest
 
 from yardturn.needing import can_come, needed, needed_in_all
-
-# The greatest and the least number of sixty figures.
-GREAT = 10**60 - 1
-SMALL = -GREAT
+from yards import GREAT, SMALL, all_needs, chain, full_yard, reached_by_steps
 
 RING_WITH_WAY_IN = [(1, 2), (2, 3), (3, 4), (4, 2), (3, 5)]
-
-
-def chain(length):
-    """Each job needs the one below it, down to 1, which needs nothing."""
-    return [(job, job - 1) for job in range(2, length + 1)]
-
-
-def full_yard():
-    """A hundred and ten jobs and three hundred needs, each job needing up to three just below it."""
-    jobs = list(range(-55, 55))
-    needs = [(job, job - step) for step in (1, 2, 3) for job in jobs if job - step >= -55]
-    return jobs, needs[:300]
-
-
-def all_needs(jobs):
-    """Every list of needs that these jobs can have, each pair at most once."""
-    pairs = list(itertools.product(jobs, repeat=2))
-    for size in range(len(pairs) + 1):
-        for chosen in itertools.combinations(pairs, size):
-            yield list(chosen)
-
-
-def reached_by_steps(job, needs, jobs):
-    """What is reached by one need, by two, and so on; more steps than jobs reach nothing new."""
-    found = set()
-    front = {job}
-    for _ in jobs:
-        front = {other for first, other in needs if first in front}
-        found |= front
-    return sorted(found)
 
 
 class Needed(unittest.TestCase):

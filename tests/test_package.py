@@ -72,6 +72,31 @@ class PackageFiles(unittest.TestCase):
             if isinstance(node, ast.Constant):
                 self.assertIn(type(node.value), (int, str, bool, type(None)), name)
 
+    def test_no_else_behind_a_loop(self):
+        for name, node in nodes():
+            if isinstance(node, (ast.For, ast.While)):
+                self.assertEqual(node.orelse, [], name)
+
+    def test_names_are_drawn_from_the_file_that_defines_them(self):
+        for name, node in nodes():
+            if isinstance(node, ast.ImportFrom):
+                drawn_from = FOLDER.parent.joinpath(*node.module.split(".")).with_suffix(".py")
+                tops = ast.parse(drawn_from.read_text(encoding="utf-8")).body
+                defined = [top.name for top in tops if isinstance(top, (ast.FunctionDef, ast.ClassDef))]
+                for drawn in node.names:
+                    self.assertIn(drawn.name, defined, name)
+
+    def test_no_two_files_draw_from_one_another(self):
+        drawn_from = {path.stem: set() for path in files()}
+        for name, node in nodes():
+            if isinstance(node, ast.ImportFrom):
+                drawn_from[name.removesuffix(".py")].add(node.module.split(".")[-1])
+        # Files that draw from nothing left are set aside; whatever stays draws from itself in some steps.
+        while any(not drawn for drawn in drawn_from.values()):
+            free = {name for name, drawn in drawn_from.items() if not drawn}
+            drawn_from = {name: drawn - free for name, drawn in drawn_from.items() if name not in free}
+        self.assertEqual(drawn_from, {})
+
     def test_short_functions_without_decorators(self):
         for name, node in nodes():
             if isinstance(node, (ast.FunctionDef, ast.ClassDef)):
